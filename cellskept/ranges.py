@@ -8,6 +8,12 @@ def range_of_cell(columns, numbers, kept, place):
     """The least and the greatest number that the kept cell at this place has in a table that may be."""
     rows_left = left_in_rows(columns, numbers, kept)
     columns_left = left_in_columns(columns, numbers, kept)
+    return range_by_left(rows_left, columns_left, kept, place)
+
+
+def range_by_left(rows_left, columns_left, kept, place):
+    """The same, of a table of which only is known what each row and column has left."""
+    columns = len(columns_left)
     i = place // columns
     j = place % columns
     least = 0
@@ -54,7 +60,9 @@ def columns_reached(columns, kept, rows, place):
     """The columns in which these rows have a kept cell, the one at this place not counted."""
     reached = []
     for column in range(columns):
-        places = [row * columns + column for row in rows]
-        if any([kept[other] and other != place for other in places]):
-            reached.append(column)
+        for row in rows:
+            other = row * columns + column
+            if kept[other] and other != place:
+                reached.append(column)
+                break
     return reached

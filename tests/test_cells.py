@@ -2,16 +2,9 @@
 
 import unittest
 
-from tests.helper import HIGHEST, SIZES, ask, cells, keep, known, near, range_of, table, tell
+from tests.helper import HIGHEST, SIZES, ask, cells, keep, known, near, range_of, table, tell, wrong_cells
 
 SQUARE = table(2, 2, [1, 2, 3, 4])
-
-
-def wrong_cells(r, c):
-    rows = [(i, j) for i in (0, r + 1, HIGHEST) for j in (1, c)]
-    columns = [(i, j) for j in (0, c + 1, HIGHEST) for i in (1, r)]
-    both = [(0, 0), (r + 1, c + 1), (HIGHEST, HIGHEST), (0, HIGHEST), (HIGHEST, 0)]
-    return rows + columns + both
 
 
 class NoSuchCell(unittest.TestCase):

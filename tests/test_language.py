@@ -105,6 +105,23 @@ class Language(unittest.TestCase):
             used = {node.id for node in ast.walk(tree) if isinstance(node, ast.Name)}
             self.assertEqual(sorted(used - own - OWN_NAMES_OF_PYTHON), [])
 
+    def test_no_local_is_called_like_a_class_or_an_import(self):
+        for path, tree in self.trees.items():
+            top = [node for node in tree.body if isinstance(node, (ast.ClassDef, ast.ImportFrom))]
+            taken = {node.name for node in top if isinstance(node, ast.ClassDef)}
+            taken |= {alias.name for node in top if isinstance(node, ast.ImportFrom) for alias in node.names}
+            local = {node.arg for node in ast.walk(tree) if isinstance(node, ast.arg)}
+            local |= {node.id for node in ast.walk(tree) if isinstance(node, ast.Name) and isinstance(node.ctx, ast.Store)}
+            self.assertEqual(sorted(taken & local), [], path.name)
+
+    def test_no_two_files_draw_from_one_another(self):
+        draws = {f"cellskept.{path.stem}": {node.module for node in ast.walk(tree) if isinstance(node, ast.ImportFrom)}
+                 for path, tree in self.trees.items()}
+        while draws:
+            free = [name for name, drawn in draws.items() if not drawn & set(draws)]
+            self.assertNotEqual(free, [], draws)
+            draws = {name: drawn for name, drawn in draws.items() if name not in free}
+
     def test_methods(self):
         own = {node.name for node, where in self.nodes(ast.FunctionDef)}
         for node, where in self.nodes(ast.Call):

@@ -3,16 +3,12 @@
 import random
 import unittest
 
-from tests.helper import HIGHEST, SIZES, ask, cells, keep, known, near, searched_ranges, table, tell
+from tests.helper import HIGHEST, SIZES, ask, cells, keep, known, near, searched_ranges, table, tell, told
 
 SQUARE = table(2, 2, [1, 2, 3, 4])
 # With the cells of RING kept, each of these has width 4, and any one more cell that is kept has width 0.
 WIDE = table(3, 3, [2, 9, 2, 2, 9, 2, 9, 9, 9])
 RING = [keep(1, 1), keep(1, 3), keep(2, 1), keep(2, 3)]
-
-
-def told(found):
-    return [len(found)] + [number for cell in found for number in cell]
 
 
 class Known(unittest.TestCase):

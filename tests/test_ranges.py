@@ -3,7 +3,8 @@
 import random
 import unittest
 
-from tests.helper import SIZES, ask, cells, keep, range_of, searched_ranges, table, tables_that_may_be, tell
+from tests.helper import (SIZES, Plain, ask, cells, keep, pushed_range, range_of, range_of_all, searched_ranges, table,
+                          tables_that_may_be, tell)
 
 
 def places_kept(count, mask):
@@ -23,6 +24,22 @@ class Search(unittest.TestCase):
     def test_square_beside_a_told_column(self):
         found = list(tables_that_may_be(2, 3, [1, 7, 1, 1, 8, 0], [True, False, True] * 2))
         self.assertEqual(found, [(1, 7, 1, 1, 8, 0), (2, 7, 0, 0, 8, 1)])
+
+
+    def test_the_other_ways_to_search_find_the_same(self):
+        source = random.Random(7)
+        for r, c in SIZES:
+            for turn in range(20):
+                numbers = [source.choice((0, 0, 1, 1, 2)) for place in range(r * c)]
+                kept = [source.random() < source.choice((0.6, 0.9, 1)) for place in numbers]
+                places = [place for place in range(r * c) if kept[place]]
+                ranges = searched_ranges(r, c, numbers, kept)
+                plain = Plain()
+                plain.set_table(r, c, numbers)
+                self.assertEqual(sorted(plain.may_be(places)), sorted(tables_that_may_be(r, c, numbers, kept)))
+                for place in places:
+                    self.assertEqual(pushed_range(r, c, numbers, kept, place), ranges[place])
+                    self.assertEqual(plain.ends(place, places), ranges[place])
 
 
 class Ranges(unittest.TestCase):
@@ -65,6 +82,18 @@ class Ranges(unittest.TestCase):
                 kept = [place // c in rows and place % c in columns for place in range(r * c)]
                 numbers = [source.choice((0, 1, 50, 98, 99)) for place in kept]
                 self.assert_ranges(r, c, numbers, kept, [place for place in range(r * c) if kept[place]])
+
+    def test_numbers_up_to_99_in_every_choice_of_kept_cells(self):
+        source = random.Random(8)
+        for turn in range(300):
+            r, c = source.choice(SIZES)
+            numbers = [source.choice((0, 1, 50, 98, 99)) for place in range(r * c)]
+            kept = [source.random() < source.choice((0.5, 0.8, 1)) for place in numbers]
+            keeps = [keep(*cell) for cell, is_kept in zip(cells(r, c), kept) if is_kept]
+            asked = ask(table(r, c, numbers), *keeps, *range_of_all(r, c))[1 + len(keeps):]
+            for place in range(r * c):
+                expected = pushed_range(r, c, numbers, kept, place) if kept[place] else [numbers[place]] * 2
+                self.assertEqual(asked[place], expected)
 
     def test_keep_answers_the_range_of_each_moment(self):
         source = random.Random(4)
